@@ -1,0 +1,1 @@
+"""Everypipe: a shell and job runner in which one run tells all."""
