@@ -123,7 +123,7 @@ class ForFrame(TurnsFrame):
             self.stage = "name"
             self.name = self.name + sign
             return ON
-        if self.stage == "first":
+        if self.stage == "first" or sign != " ":
             return WRONG
         self.stage = "in"
         reader.push(KeptFrame("in", False))
