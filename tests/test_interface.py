@@ -1,0 +1,105 @@
+"""Each name of the interface is defined in its file and takes its parameters; errors keep what they are made with."""
+
+import ast
+import importlib
+import inspect
+import os
+import unittest
+
+from everypipe.errors import PipeError
+from helper import any_objects
+
+TOP = os.path.dirname(os.path.dirname(os.path.abspath(__file__)))
+FUNCTIONS = {
+    "shelltrees": "is_script(thing) quoted(text)",
+    "shellreading": "read_script(text) script_fault(text) completed(text)",
+    "shellwriting": "script_text(script)",
+    "shellsums": "sum_value(total,held)",
+    "fields": "parted(chunks)",
+    "filetrees": "is_line(thing) is_tree(thing) is_path(thing) kind_at(tree,path) names_at(tree,path) lines_at(tree,path) "
+                 "resolved(here,text) opened(tree,path,way) with_line(tree,path,line) dir_and_name(path)",
+    "patterns": "is_pattern(thing) is_match(pattern,line) first_match(pattern,line) can_end(pattern) "
+                "behind_letter(pattern,letter) neat(pattern) sorts_of(patterns)",
+    "expansion": "expanded(words,scope,answers) assigned(word,scope,answers) glob_of(word,scope,answers) asks(words)",
+    "simplewords": "is_simple(thing) words_part(one,other)",
+    "filelists": "files_of(tree) directories_of(tree) tree_of(directories,files) unlike_at(one,other)",
+    "programs": "Program(rows)",
+    "actors": "actor_of(program) stand(program,answers)",
+    "patterntexts": "pattern_fault(text) read_pattern(text) pattern_text(pattern)",
+    "globs": "is_glob(thing) glob_pattern(glob) is_taken(glob,name) taken_of(glob,names)",
+    "signs": "sign_status(sign) is_signals(thing) leaving_out(actor,signs)",
+}
+METHODS = {("programs", "Program"): ["rows", "__eq__"]}
+ERRORS = """BadScript(script) BadShellText(line,sign) BadHeldText(text) BadScope(scope) BadWords(index) BadAnswers(index)
+BadShellWord(word) BadSum(total) BadValues(held) BadChunks(index) BadSimple(word) BadLine(line) BadTree(tree)
+BadPath(path) BadString(text) BadWay(way) BadDirectories(index) BadFiles(index) BadRows(index) BadProgram(program)
+BadStreams(streams) BadMost(most) BadDeeds(index) BadDescriptor(n) BadPiece(piece) BadProgramText(line,sign)
+BadPattern(pattern) BadLetter(letter) BadText(place) BadMany(many) BadGlob(glob) BadNames(index) BadSteps(steps)
+BadPieces(index) BadHolders(index) BadRooms(rooms) BadSignals(index) BadPipe(pipe) PipeError()"""
+REFUSALS = """BadProcess(process) CannotStep(process) BadSchedule(index) BadMachine(machine) BadArguments(index)
+BadStrings(index) BadLines(index) BadTask(index) BadTasks(tasks) Ringed(tasks) BadLeftOut(thing) BadMade(name)
+BadRecords(records) BadLasts(lasts) BadSign(sign) BadActor(actor) BadSigns(index) BadAllowed(allowed) BadNet(net)
+BadRow(row) BadDeed(deed) BadWaits(waits) TooMany(many) NotWhole(machine) BadOutcome(outcome) BadOther(other)
+BadStep(thing) BadTruth(is_asked) BadRowOf(index) BadRowText(line,sign) NotDone(index) BadProcesses(index) BadPair(pair)
+BadAlphabet(index) UnlikeRows() BadTexts(index) BadSchedules(index)"""
+
+
+def signatures(text):
+    for word in text.split():
+        name, _, rest = word.partition("(")
+        yield name, [part for part in rest.rstrip(")").split(",") if part]
+
+
+def top_definitions(file):
+    with open(os.path.join(TOP, "everypipe", file + ".py"), encoding="utf-8") as source:
+        body = ast.parse(source.read()).body
+    return {node.name: node for node in body if isinstance(node, (ast.FunctionDef, ast.ClassDef))}
+
+
+class Interface(unittest.TestCase):
+    def test_functions_stand_in_their_files(self):
+        for file, text in FUNCTIONS.items():
+            module = importlib.import_module("everypipe." + file)
+            defined = top_definitions(file)
+            for name, parameters in signatures(text):
+                self.assertIn(name, defined)
+                self.assertEqual(list(inspect.signature(getattr(module, name)).parameters), parameters, name)
+
+    def test_methods_stand_in_their_classes(self):
+        for (file, name), methods in METHODS.items():
+            inside = [node.name for node in top_definitions(file)[name].body if isinstance(node, ast.FunctionDef)]
+            for method in methods:
+                self.assertIn(method, inside)
+
+    def test_errors(self):
+        for file, text in (("errors", ERRORS), ("refusals", REFUSALS)):
+            module = importlib.import_module("everypipe." + file)
+            defined = top_definitions(file)
+            wanted = dict(signatures(text))
+            self.assertEqual(sorted(defined), sorted(wanted))
+            for name, parameters in wanted.items():
+                self.check_error(getattr(module, name), parameters)
+
+    def check_error(self, error, parameters):
+        if error is PipeError:
+            self.assertEqual(error.__bases__, (ValueError,))
+        else:
+            self.assertEqual(error.__bases__, (PipeError,))
+        for thing in any_objects():
+            by_place = error(*[thing] * len(parameters))
+            by_name = error(**{name: thing for name in parameters})
+            for made in (by_place, by_name):
+                self.assertIsInstance(made, ValueError)
+                self.assertEqual(sorted(vars(made)), sorted(parameters))
+                for name in parameters:
+                    self.assertIs(getattr(made, name), thing)
+        marks = [object() for _ in parameters]
+        made = error(*marks)
+        for name, mark in zip(parameters, marks):
+            self.assertIs(getattr(made, name), mark)
+        with self.assertRaises(TypeError):
+            error(*marks, 1)
+
+
+if __name__ == "__main__":
+    unittest.main()
