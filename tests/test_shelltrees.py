@@ -26,7 +26,9 @@ def with_turn(turn):
     return script_of(("run", [], [A], [turn]))
 
 
-class Words(unittest.TestCase):
+class Looked(unittest.TestCase):
+    """What both classes below share; it has no test of its own."""
+
     def right(self, script):
         self.assertIs(is_script(script), True, script)
         self.assertIs(is_script(changed(script)), True, script)
@@ -35,6 +37,8 @@ class Words(unittest.TestCase):
         self.assertIs(is_script(script), False, script)
         self.assertIs(is_script(changed(script)), False, script)
 
+
+class Words(Looked):
     def test_plain_signs(self):
         self.assertEqual(PLAIN, PLAIN_SIGNS)
         self.assertEqual(sorted(PLAIN + " ;&|<>(){}'\"\\$#!`"), list(SIGNS))
@@ -134,7 +138,7 @@ class Words(unittest.TestCase):
         self.wrong(with_sum(one[0]))
 
 
-class Commands(Words):
+class Commands(Looked):
     def test_lists(self):
         self.right([])
         self.right(LIST)
