@@ -1,7 +1,7 @@
 """The reader's frames of all commands but runs; each gets its lists by given_list."""
 
 from everypipe.kinds import FIGURES, LETTERS
-from everypipe.readingframes import AGAIN, ON, WORD_SIGNS, WRONG, KeptFrame, RemarkFrame
+from everypipe.readingframes import AGAIN, ON, WRONG, KeptFrame, RemarkFrame, is_word_sign
 from everypipe.runreading import TurnFrame
 from everypipe.wordreading import WordFrame
 
@@ -130,7 +130,7 @@ class ForFrame(TurnsFrame):
         return AGAIN
 
     def take_words(self, reader, sign):
-        if sign in WORD_SIGNS:
+        if is_word_sign(sign):
             reader.push(WordFrame(True))
             return AGAIN
         if sign in (";", "\n"):
@@ -185,7 +185,7 @@ class CaseFrame(TurnsFrame):
         if sign == " ":
             return ON
         if self.stage in ("word", "choice"):
-            if sign not in WORD_SIGNS:
+            if not is_word_sign(sign):
                 return WRONG
             self.stage = "behind " + self.stage
             reader.push(WordFrame(False))

@@ -1,7 +1,7 @@
 """The reader's frame of a list: its rows, its and, or, not, its ends; and of the whole text."""
 
 from everypipe.blockreading import CaseFrame, DefFrame, ForFrame, GroupFrame, IfFrame
-from everypipe.readingframes import AGAIN, END, ON, WORD_SIGNS, WRONG, RemarkFrame
+from everypipe.readingframes import AGAIN, END, ON, WRONG, RemarkFrame, is_word_sign
 from everypipe.runreading import RunFrame
 
 
@@ -70,7 +70,7 @@ class ListFrame:
         if sign in ("(", "{"):
             self.begin(reader, GroupFrame("sub" if sign == "(" else "group"))
             return ON
-        if sign in WORD_SIGNS or sign in ("<", ">"):
+        if is_word_sign(sign) or sign in ("<", ">"):
             self.begin(reader, RunFrame())
             return AGAIN
         return WRONG

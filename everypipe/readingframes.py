@@ -14,7 +14,12 @@ AGAIN = "again"
 WRONG = "wrong"
 # It is handed behind the last sign; no string of signs below has it as a part.
 END = "(end)"
-WORD_SIGNS = PLAIN + "\"'\\$"
+QUOTING = ("\"", "'", "\\", "$")
+
+
+def is_word_sign(sign):
+    """Whether a sign can stand in a word, or begin what does."""
+    return sign in PLAIN or sign in QUOTING
 
 
 class RemarkFrame:
@@ -40,7 +45,7 @@ class KeptFrame:
 
     def take(self, reader, sign):
         if self.seen == self.word:
-            if sign in WORD_SIGNS:
+            if is_word_sign(sign):
                 return WRONG
             reader.done(self.word)
             return AGAIN

@@ -1,7 +1,7 @@
 """The reader's frames of runs and of turns."""
 
 from everypipe.kinds import FIGURES
-from everypipe.readingframes import AGAIN, ON, WORD_SIGNS, WRONG
+from everypipe.readingframes import AGAIN, ON, WRONG, is_word_sign
 from everypipe.wordforms import is_kept_word, set_name
 from everypipe.wordreading import WordFrame
 
@@ -29,14 +29,14 @@ class TurnFrame:
         if self.stage == "to":
             return self.take_to(sign)
         if self.stage == "ended":
-            if sign in WORD_SIGNS:
+            if is_word_sign(sign):
                 return WRONG
             reader.done(self.turn())
             return AGAIN
         self.stage = "word"
         if sign == " ":
             return ON
-        if sign not in WORD_SIGNS:
+        if not is_word_sign(sign):
             return WRONG
         self.stage = "behind"
         reader.push(WordFrame(False))
@@ -105,7 +105,7 @@ class RunFrame:
             self.put_word(word)
         if sign == " ":
             return ON
-        if sign in WORD_SIGNS:
+        if is_word_sign(sign):
             reader.push(WordFrame(True))
         elif sign in ("<", ">"):
             reader.push(TurnFrame(None))

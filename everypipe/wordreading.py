@@ -1,7 +1,7 @@
 """The reader's frames of words and of what "$" begins in them."""
 
 from everypipe.kinds import FIGURES, LETTERS
-from everypipe.readingframes import AGAIN, END, ON, WRONG
+from everypipe.readingframes import AGAIN, END, ON, WRONG, is_word_sign
 from everypipe.sumreading import SumFrame
 from everypipe.wordforms import KEPT, PLAIN, is_bare_held, is_held_piece
 
@@ -55,8 +55,7 @@ class WordFrame:
         return ON
 
     def take_open(self, reader, sign):
-        is_all = self.pieces == [("all",)]
-        if is_all and (sign in PLAIN or sign in "\"'\\$"):
+        if self.pieces == [("all",)] and is_word_sign(sign):
             return WRONG
         if sign in PLAIN:
             self.put_text("plain", sign)
