@@ -72,9 +72,10 @@ def with_names(beginnings, items, asker):
 
 
 def paths_of(signs, asker):
+    """The paths that some signs come to, one of which at least is not a slash."""
     parts = parts_of(signs)
     paths = [""]
-    if len(parts) > 1 and len(parts[0]) == 0:
+    if len(parts[0]) == 0:
         paths = ["/"]
         del parts[0]
     is_listing = False

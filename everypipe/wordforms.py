@@ -119,7 +119,8 @@ def free_form(thing):
 
 
 def all_form(thing):
-    return (False, ["leaf"]) if is_listed_of(thing, 1) and word_of(thing) == "all" else None
+    """The form of the one piece of what is_all_word has found right."""
+    return (False, ["leaf" for _ in thing])
 
 
 FORMS = {"sum": sum_form, "piece": piece_form, "bare": bare_form, "word": word_form, "free": free_form, "all": all_form}
@@ -143,8 +144,3 @@ def set_name(text):
 def is_kept_word(word):
     """Whether a word, of which all is known to be right, is one plain piece that is kept."""
     return len(word) == 1 and word[0][0] == "plain" and word[0][1] in KEPT
-
-
-def begins_as_set(word):
-    """Whether a word, of which all is known to be right, begins as a set does."""
-    return word[0][0] == "plain" and set_name(word[0][1]) != ""

@@ -103,6 +103,27 @@ class Words(unittest.TestCase):
         self.comes_to("${x:-$?$(a)}", ["a", "b"])
         self.comes_to("\"${q:-$?}\"", ["7"], answers=[7])
 
+    def test_what_is_held_of_elses(self):
+        scope = ({"g": "* b"}, [])
+        for text in ["\"${g:-a}\"", "\"${q:-$g}\"", "${q:-\"$g\"}", "\"${q:-*' 'b}\""]:
+            self.comes_to(text, ["* b"], scope)
+        self.needs("${g:-a}", ("list", ""), scope=scope)
+        self.needs("${q:-*}", ("list", ""), scope=scope)
+        self.comes_to("\"${q:-*}\"", ["*"], scope)
+        self.comes_to("\"$g\"\"$(a)\"", ["* b?"], scope, [["?"]])
+        self.needs("\"$(a)\"$(a)", ("list", ""), [["?"], ["?"]])
+        self.comes_to("\"$(a)$((2))${#g}\"", ["*23"], scope, [["*"]])
+
+    def test_lists_are_told_anew(self):
+        maker = Maker(17)
+        for _ in range(150):
+            pairs = maker.list(2)
+            word = [("out", pairs, maker.chance(50))]
+            for one in (word, changed(word)):
+                for told in (expanded([one], SCOPE, []), assigned(one, SCOPE, []), glob_of(one, SCOPE, [])):
+                    self.assertTrue(is_alike(told, ("needs", ("out", pairs))))
+                    self.assertTrue(is_new(told, word, one))
+
     def test_outs(self):
         need = ("out", [(("run", [], [[("plain", "a")]], []), False)])
         self.needs("$(a)", need)
@@ -267,6 +288,9 @@ class Globs(unittest.TestCase):
         glob("[a'] *']", ("of", " *]a"))
         glob("[a']'", "[", "a", "]")
         glob("'[a]'", "[", "a", "]")
+        glob("\\[a]", "[", "a", "]")
+        glob("ab]c", "a", "b", "]", "c")
+        glob("a]b]", "a", "]", "b", "]")
         glob("['\n']", ("of", " "))
         glob("'\n'", " ")
         glob("[a\"$x\"]", ("of", "ab"), scope=({"x": "ab"}, []))

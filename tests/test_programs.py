@@ -62,7 +62,7 @@ class Programs(unittest.TestCase):
                  ("field", "a", "i", 1), ("field", "a", "b", "1"), ("field", "a", "b"), ("match", "*", "a", 0), ("match", "", "a", 0),
                  ("match", 1, "a", 0), ("match", ("any",), "a", 0), ("match", "a", "i", 0), ("match", "a", "a", None),
                  ("same", "a", "i", 0), ("same", "a", 1, 0), ("same", "a", "b"), ("count", "a", 1), ("count", "i", "a"),
-                 ("count", "i", True), ("count", "i", None), ("count", "i"), ("count", "i", "ij"), ("count", "o", 1),
+                 ("count", "i", True), ("count", "i", None), ("count", 1, 1), ("less", 1, 2, 0), ("count", "i"), ("count", "i", "ij"), ("count", "o", 1),
                  ("less", "i", "a", 0), ("less", "i", False, 0), ("less", "a", 1, 0), ("less", "i", 1), ("jump", -1), ("jump", None),
                  ("jump", False), ("jump",), ("jump", "0"), ("first", "i", 0), ("first", "a"), ("least", "a", -1), ("least", 1, 0),
                  (["end"], 0), ("End", 0), {"end": 0}, ("keep",), ("keep", "a"), ("set", "a"), ("set", "i", []), ("put", 0),

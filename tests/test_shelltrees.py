@@ -58,6 +58,10 @@ class Words(Looked):
         self.wrong(with_word("ab"))
         self.wrong(with_word([[]]))
         self.wrong(with_word([("other", "a")]))
+        self.wrong(with_word([5, ("held", "")]))
+        self.wrong(with_word([("held", ""), None]))
+        self.wrong(script_of(("run", [], [[("plain", 5)]], [])))
+        self.wrong(script_of(("run", [], [[("plain", "if", 5)]], [])))
 
     def test_side_by_side(self):
         value, open_value = ("value", "x", True), ("value", "x", False)

@@ -77,10 +77,10 @@ class LeavingOut(unittest.TestCase):
 
     def test_what_is_handed(self):
         recorder = Recorder()
-        answers = ["int", ("int",), INT, None, ("sign", "int", 1), ["sign", "term"], ("sign", "exit")]
+        answers = ["int", ("int",), ("other", "int"), INT, None, ("sign", "int", 1), ["sign", "term"], ("sign", "exit")]
         before = list(answers)
         self.assertEqual(leaving_out(recorder, ["int"])(answers), ("over", 0))
-        self.assertEqual(recorder.handed, [["int", ("int",), None, ("sign", "int", 1), ["sign", "term"], ("sign", "exit")]])
+        self.assertEqual(recorder.handed, [["int", ("int",), ("other", "int"), None, ("sign", "int", 1), ["sign", "term"], ("sign", "exit")]])
         self.assertEqual(answers, before)
         leaving_out(recorder, [])(answers)
         self.assertEqual(recorder.handed[1], answers)

@@ -9,7 +9,7 @@ from everypipe.shellreading import read_script
 from everypipe.simplewords import is_simple, words_part
 from helper import Maker, SIGNS, any_objects, changed, is_alike, is_new
 
-PIECES = [("plain", "a"), ("held", ""), ("held", "a"), ("held", " "), ("value", "x", True), ("value", "x", False),
+PIECES = [("plain", "a"), ("plain", "xa"), ("held", "ax"), ("value", "ax", True), ("held", ""), ("held", "a"), ("held", " "), ("value", "x", True), ("value", "x", False),
           ("value", "y", False), ("value", "y", True)]
 
 
@@ -71,7 +71,8 @@ class Simple(unittest.TestCase):
                            ("$x$y", "$x''$y"), ("$x$y", "$y$x"), ("$x$x", "$x"), ("\"$x\"", "\"$y\""), ("\"$x$y\"", "\"$y$x\""),
                            ("\"$x\"", "' ~x '"), ("\"$x\"", "'~x'"), ("$x", "'~x'"), ("$x", "\\~x"), ("a$x", "a\"$x\""),
                            ("\"$x\"$y", "$x\"$y\""), ("$x", "''"), ("\"$x\"", "''"), ("$x' '$y", "$x''$y"), ("\"$x \"", "\"$x\""),
-                           ("\"$x~y\"", "\"$x~x\""), ("\"~$x\"", "\"$x~\""), ("$abcdefgh", "$abcdefg"), ("a$x", "${x}a")]:
+                           ("\"$x~y\"", "\"$x~x\""), ("\"~$x\"", "\"$x~\""), ("$abcdefgh", "$abcdefg"), ("a$x", "${x}a"),
+                           ("\"$x\"a", "xa"), ("a$x", "a$x''"), ("a\"$x\"", "\"$ax\""), ("a\"$x\"b", "a\"$xb\""), ("a$x", "${x}''")]:
             self.unlike(one, other)
 
     def test_just_one(self):
@@ -84,7 +85,7 @@ class Simple(unittest.TestCase):
             if made_of(one) == made_of(other):
                 self.assertIsNone(words_part(one, other))
                 for x, y in itertools.product(["", " ", "a", " a", "a b "], repeat=2):
-                    scope = ({"x": x, "y": y}, [])
+                    scope = ({"x": x, "y": y, "ax": x}, [])
                     self.assertEqual(expanded([one], scope, []), expanded([other], scope, []))
             else:
                 self.parts(one, other)
