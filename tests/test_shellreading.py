@@ -175,6 +175,8 @@ class Reading(unittest.TestCase):
         turn(" 2>&1#x", (2, "&", 1))
         self.reads("a2>f", ("run", [], [plain("a2")], [(1, ">", plain("f"))]))
         self.reads("a 22>f", ("run", [], [plain("a"), plain("22")], [(1, ">", plain("f"))]))
+        self.reads("a 12>f", ("run", [], [plain("a"), plain("12")], [(1, ">", plain("f"))]))
+        self.reads("2'a'>f", ("run", [], [[("plain", "2"), ("held", "a")]], [(1, ">", plain("f"))]))
         self.reads("a 2 >f", ("run", [], [plain("a"), plain("2")], [(1, ">", plain("f"))]))
         self.reads("a '2'>f", ("run", [], [plain("a"), held("2")], [(1, ">", plain("f"))]))
         self.reads("x=2>f", ("run", [("x", plain("2"))], [], [(1, ">", plain("f"))]))
@@ -219,7 +221,7 @@ class Reading(unittest.TestCase):
         self.word("${1:-a'b c'}", ("else", "1", [("plain", "a"), ("held", "b c")], False))
         self.word("\"${x:-$y\"a\"}\"", ("else", "x", [("value", "y", False), ("held", "a")], True))
         self.word("${x:-${y:-''}}", ("else", "x", [("else", "y", [("held", "")], False)], False))
-        self.wrong_last("$abcdefghi", "$0", "$A", "$ ", "$\n", "$$", "${}", "${0", "${?", "${##", "${#}", "${abcdefghi",
+        self.wrong_last("$abcdefghi", "$0", "$A", "$Z", "$ ", "$\n", "$$", "${}", "${0", "${?", "${##", "${#}", "${abcdefghi",
                         "${12", "${x-", "${x:}", "${x:=", "${#x:", "${x ", "${x:-a ", "${x:- ", "${x:-#", "${x:-a#", "${x:-;",
                         "${x:-\n", "${x:-(", "${x:-$@", "\"$\"", "\"$ ", "\"$@", "\"$(a;)$@")
         self.lacks("$", "${", "${x", "${x:", "${x:-", "${x:-a", "${#", "${#x", "\"$", "\"${x", "${1", "${x:-'")
