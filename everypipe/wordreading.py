@@ -19,13 +19,17 @@ def joined_pieces(pieces):
 
 
 class WordFrame:
-    """A word; can_be_all if it may be all arguments. quote is the quote that is open, "" if none is."""
+    """A word; can_be_all if it may be all arguments. quote is the quote that is open, "" if none is.
+
+    is_begun as long as a piece that "$" begins is not whole: then the word has more than its pieces.
+    """
 
     def __init__(self, can_be_all):
         self.can_be_all = can_be_all
         self.pieces = []
         self.quote = ""
         self.is_escaped = False
+        self.is_begun = False
 
     def take(self, reader, sign):
         if self.is_escaped:
@@ -49,7 +53,7 @@ class WordFrame:
         elif self.quote == "\"" and sign == "\\":
             self.is_escaped = True
         elif self.quote == "\"" and sign == "$":
-            reader.push(DollarFrame(True, False))
+            self.begin(reader, DollarFrame(True, False))
         else:
             self.put_text("held", sign)
         return ON
@@ -65,7 +69,7 @@ class WordFrame:
         elif sign == "\\":
             self.is_escaped = True
         elif sign == "$":
-            reader.push(DollarFrame(False, self.can_be_all and len(self.pieces) == 0))
+            self.begin(reader, DollarFrame(False, self.can_be_all and len(self.pieces) == 0))
         else:
             reader.done(joined_pieces(self.pieces))
             return AGAIN
@@ -76,7 +80,12 @@ class WordFrame:
             text = self.pieces.pop()[1] + text
         self.pieces.append((word, text))
 
+    def begin(self, reader, frame):
+        self.is_begun = True
+        reader.push(frame)
+
     def given(self, reader, piece):
+        self.is_begun = False
         self.pieces.append(piece)
 
     def hint(self):
@@ -85,7 +94,7 @@ class WordFrame:
         if self.quote != "":
             return self.quote
         is_kept = len(self.pieces) == 1 and self.pieces[0][0] == "plain" and self.pieces[0][1] in KEPT
-        return "a" if is_kept else ""
+        return "a" if is_kept and not self.is_begun else ""
 
 
 class DollarFrame:

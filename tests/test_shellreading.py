@@ -383,16 +383,29 @@ class Viability(unittest.TestCase):
                     continue
                 self.assertTrue(is_alike(read_script(text), script), text)
                 self.assertTrue(is_script(script), text)
+                self.check_completed(text)
                 begun.update(text[:at] for at in range(len(text) + 1))
         for text, at in faults.items():
-            told = completed(text)
             if at < len(text):
-                self.assertIsNone(told, text)
+                self.assertIsNone(completed(text), text)
                 self.assertNotIn(text[:at + 1], begun)
-                told = completed(text[:at])
-                text = text[:at]
-            self.assertTrue(told.startswith(text), text)
-            self.assertIsNotNone(read_again(told), text)
+            self.check_completed(text[:at])
+
+    def check_completed(self, text):
+        told = completed(text)
+        self.assertTrue(told.startswith(text), text)
+        self.assertIsNotNone(read_again(told), text)
+
+    def test_whatever_is_begun_comes_to_an_end(self):
+        for kept in KEPT:
+            for more in ("$x", "$abcdefgh", "$", "${x", "${x:-" + kept, "$(" + kept, "$((x", "\"$x", "\"$abcdefgh\"$abcdefgh"):
+                for ahead in ("", "a | ", "{ do", "( ", "x=1 2>&- 2>>${x:-b$y}a ", "if a; then ", "a && ! ", "for x in ",
+                              "case ", "case a; when ", "a >", "a 2>", "${x:-", "\"${x:-", "$(", "{ a; } 2>", "y= $@\n"):
+                    text = ahead + kept + more
+                    if script_fault(text) is None or place(text, script_fault(text)) == len(text):
+                        self.check_completed(text)
+        self.gone_through(["if", "$", "x", "abcdefg", "{", "}", " "], 5)
+        self.gone_through(["do", "$x", "\"", ";", "#", "|", ">"], 4)
 
     def test_short_texts(self):
         self.gone_through("a2>&- ;#\n", 4)
@@ -422,15 +435,13 @@ class Viability(unittest.TestCase):
         self.assertEqual(script is None, fault is not None, text)
         if script is not None:
             self.assertTrue(is_alike(read_script(text), script), text)
-            self.assertIsNotNone(completed(text))
+            self.check_completed(text)
             return
         at = place(text, fault)
         self.assertEqual(completed(text) is None, at < len(text), text)
         if at < len(text):
             self.assertIsNone(completed(text[:at + 1]))
-        told = completed(text[:at])
-        self.assertTrue(told.startswith(text[:at]))
-        self.assertIsNotNone(read_again(told), text)
+        self.check_completed(text[:at])
 
     def test_long_and_deep_texts(self):
         for text in ["(" * 400, "{ " * 200, "$(a " * 100, "${x:-" * 80, "$((" + "(" * 397, "if " * 133, "! ", "a && " * 80]:
