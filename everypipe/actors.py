@@ -1,7 +1,7 @@
 """Programs as actors: what one wishes next, by the answers that it had so far."""
 
 from everypipe.errors import BadAnswers, BadProgram
-from everypipe.kinds import is_line_of_signs, is_listed
+from everypipe.kinds import LINE_SIGNS, is_line_of_signs, is_listed
 from everypipe.matching import has_stretch, moves_of
 from everypipe.patterntexts import read_pattern
 from everypipe.programs import COUNTER_NAMES, LINE_NAMES, Program
@@ -9,7 +9,6 @@ from everypipe.signs import is_sign_answer, sign_status
 
 GREATEST_SHELF = 200
 GREATEST_STRETCH = 2000
-LINE_SIGNS = 60
 # Figures behind the first sixty-four are not seen in a line.
 MANY = 10 ** 64
 

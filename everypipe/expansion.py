@@ -24,6 +24,11 @@ def expanded(words, scope, answers):
         raise BadWords(at)
     if not is_scope(scope):
         raise BadScope(scope)
+    return words_told(words, scope, answers)
+
+
+def words_told(words, scope, answers):
+    """As expanded, of words and a scope that are right."""
     asker = Asker(answers)
     strings = []
     try:
@@ -38,10 +43,6 @@ def expanded(words, scope, answers):
 
 def chunks_told(word, scope, answers):
     """The pair ("chunks", the chunks of one word), or what is told in the place of what they make."""
-    if not fits("bare", word):
-        raise BadShellWord(word)
-    if not is_scope(scope):
-        raise BadScope(scope)
     asker = Asker(answers)
     try:
         return ("chunks", chunks_of(word, scope, asker))
@@ -51,7 +52,20 @@ def chunks_told(word, scope, answers):
         return ("refused", refusal.why)
 
 
+def check_word(word, scope):
+    if not fits("bare", word):
+        raise BadShellWord(word)
+    if not is_scope(scope):
+        raise BadScope(scope)
+
+
 def assigned(word, scope, answers):
+    check_word(word, scope)
+    return text_told(word, scope, answers)
+
+
+def text_told(word, scope, answers):
+    """As assigned, of a word and a scope that are right."""
     told = chunks_told(word, scope, answers)
     if told[0] != "chunks":
         return told
@@ -59,6 +73,12 @@ def assigned(word, scope, answers):
 
 
 def glob_of(word, scope, answers):
+    check_word(word, scope)
+    return glob_told(word, scope, answers)
+
+
+def glob_told(word, scope, answers):
+    """As glob_of, of a word and a scope that are right."""
     told = chunks_told(word, scope, answers)
     if told[0] != "chunks":
         return told

@@ -4,6 +4,8 @@
 SIGNS = " !\"#$&'()*+,-./0123456789:;<=>?@ABCDEFGHIJKLMNOPQRSTUVWXYZ[\\]^_`abcdefghijklmnopqrstuvwxyz{|}~"
 LETTERS = "abcdefghijklmnopqrstuvwxyz"
 FIGURES = "0123456789"
+# A line has at most so many signs.
+LINE_SIGNS = 60
 
 
 def is_integer(thing):
@@ -51,7 +53,7 @@ def is_text(thing):
 
 
 def is_line_of_signs(thing):
-    return is_string_of(thing, SIGNS) and len(thing) <= 60
+    return is_string_of(thing, SIGNS) and len(thing) <= LINE_SIGNS
 
 
 def is_name(thing):

@@ -65,15 +65,22 @@ def lots_of(pattern):
     return [part[1] for part in stretched(pattern, ("row", "either", "often")) if part[0] == "of"]
 
 
+def sort_sizes(patterns):
+    """The dict from the least signs of all sorts, ascending, to how many signs each sort has."""
+    lots = [lot for pattern in patterns for lot in lots_of(pattern)]
+    least = {}
+    sizes = {}
+    for sign in SIGNS:
+        sort = "".join(["1" if sign in lot else "0" for lot in lots])
+        first = least.setdefault(sort, sign)
+        sizes[first] = sizes.get(first, 0) + 1
+    return sizes
+
+
 def sorts_of(patterns):
     if not is_listed(patterns):
         raise BadPattern(patterns)
     for pattern in patterns:
         if not is_pattern(pattern):
             raise BadPattern(pattern)
-    lots = [lot for pattern in patterns for lot in lots_of(pattern)]
-    least = {}
-    for sign in SIGNS:
-        sort = "".join(["1" if sign in lot else "0" for lot in lots])
-        least.setdefault(sort, sign)
-    return list(least.values())
+    return list(sort_sizes(patterns))

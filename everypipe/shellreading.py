@@ -3,6 +3,7 @@
 from everypipe.errors import BadShellText
 from everypipe.kinds import is_text
 from everypipe.listreading import ListFrame, TextFrame
+from everypipe.places import line_and_sign
 from everypipe.readingframes import AGAIN, END, WRONG
 
 
@@ -61,12 +62,6 @@ def wrong_place(reader, text):
         if not is_text(sign) or not reader.is_right(sign):
             return at
     return None
-
-
-def line_and_sign(text, at):
-    """The place of an index, from 1; a line feed is one of the line that it ends."""
-    ahead = text[:at]
-    return (ahead.count("\n") + 1, at - ahead.rfind("\n"))
 
 
 def read_through(text):

@@ -15,7 +15,7 @@ class SumFrame:
 
     def __init__(self):
         self.sums = []
-        self.waiting = []
+        self.pending = []
         self.stage = "first"
         self.figures = ""
         self.letters = ""
@@ -67,10 +67,10 @@ class SumFrame:
         elif sign in LETTERS:
             self.letters = sign
         elif sign == "(":
-            self.waiting.append("(")
+            self.pending.append("(")
             self.stage = "first"
         elif sign == "-" and self.stage == "first":
-            self.waiting.append("less")
+            self.pending.append("less")
             self.stage = "least"
         else:
             return WRONG
@@ -81,9 +81,9 @@ class SumFrame:
             self.stage = "less"
         elif sign in RANKS:
             self.put_sign(sign)
-        elif sign == ")" and "(" in self.waiting:
+        elif sign == ")" and "(" in self.pending:
             self.join_down_to(0)
-            self.waiting.pop()
+            self.pending.pop()
             self.put_sum(self.sums.pop())
         elif sign == ")":
             self.stage = "closing"
@@ -93,23 +93,23 @@ class SumFrame:
 
     def put_sum(self, total):
         """Put a number, a name, or what stood in brackets, with the "-" that is ahead of it."""
-        if len(self.waiting) > 0 and self.waiting[-1] == "less":
-            self.waiting.pop()
+        if len(self.pending) > 0 and self.pending[-1] == "less":
+            self.pending.pop()
             total = ("less", total)
         self.sums.append(total)
         self.stage = "behind"
 
     def put_sign(self, sign):
         self.join_down_to(RANKS[sign])
-        self.waiting.append(sign)
+        self.pending.append(sign)
         self.stage = "first"
 
     def join_down_to(self, rank):
         """Join what waits, up to a bracket, and has this rank or a greater one."""
-        while len(self.waiting) > 0 and self.waiting[-1] != "(" and RANKS[self.waiting[-1]] >= rank:
+        while len(self.pending) > 0 and self.pending[-1] != "(" and RANKS[self.pending[-1]] >= rank:
             other = self.sums.pop()
             one = self.sums.pop()
-            self.sums.append((self.waiting.pop(), one, other))
+            self.sums.append((self.pending.pop(), one, other))
 
     def hint(self):
         if self.figures == "" and self.letters == "" and self.stage != "behind" and self.stage != "closing":

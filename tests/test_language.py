@@ -92,7 +92,8 @@ class Language(unittest.TestCase):
                     self.assertEqual(node.decorator_list, [], place)
                     arguments = node.args
                     self.assertFalse(arguments.vararg or arguments.kwarg or arguments.kwonlyargs, place)
-                    self.assertFalse(arguments.posonlyargs or arguments.defaults or node.returns, place)
+                    self.assertFalse(arguments.posonlyargs or node.returns, place)
+                    self.assertTrue(all(ast.unparse(default) == "()" for default in arguments.defaults), place)
                     self.assertTrue(all(arg.annotation is None for arg in arguments.args), place)
                     for inner in ast.walk(node):
                         self.assertFalse(inner is not node and isinstance(inner, ast.FunctionDef), place)
@@ -178,8 +179,9 @@ class Language(unittest.TestCase):
                     self.assertIn(node.attr, [*METHODS, *methods, *kept, "__init__"], (name, node.lineno))
                 elif isinstance(node, ast.Attribute):
                     self.assertIn(node.attr, kept, (name, node.lineno))
-                if isinstance(node, ast.Call):
-                    self.assertEqual(node.keywords, [], (name, node.lineno))
+                if isinstance(node, ast.Call) and node.keywords:
+                    self.assertIn(ast.unparse(node.func), ("min", "max"), (name, node.lineno))
+                    self.assertEqual([keyword.arg for keyword in node.keywords], ["default"], (name, node.lineno))
 
     def test_errors(self):
         for name, tree in trees().items():
@@ -190,7 +192,7 @@ class Language(unittest.TestCase):
                     self.assertTrue(node.exc.func.id[0].isupper(), (name, node.lineno))
                 if isinstance(node, ast.ExceptHandler):
                     self.assertIsInstance(node.type, ast.Name, (name, node.lineno))
-                    self.assertIn(node.type.id, ("NeedOpen", "SumRefused"), (name, node.lineno))
+                    self.assertIn(node.type.id, ("NeedOpen", "NoMeaning", "SumRefused"), (name, node.lineno))
 
     def test_iterated_at_once(self):
         for name, tree in trees().items():
