@@ -28,8 +28,23 @@ FUNCTIONS = {
     "patterntexts": "pattern_fault(text) read_pattern(text) pattern_text(pattern)",
     "globs": "is_glob(thing) glob_pattern(glob) is_taken(glob,name) taken_of(glob,names)",
     "signs": "sign_status(sign) is_signals(thing) leaving_out(actor,signs)",
+    "alone": "alone(program,streams,most) outs_of(deeds) needs_of(deeds,n)",
+    "givens": "program_of(piece) plain_of(piece,streams,most)",
+    "programtexts": "program_text(program) read_program(text) program_fault(text)",
+    "patternpairs": "parting_line(one,other) alike_paper(one,other) is_alike_paper(one,other,thing) least_line(pattern) "
+                    "count_matches(pattern,many) outside_line(one,other) common_line(one,other)",
+    "machines": "Machine(tree,holders,rooms,signals)",
+    "shells": "shell_actor(script,arguments)",
+    "callings": "piece_of(strings)",
+    "scriptmachines": "script_machine(script,tree,arguments,lines,rooms,signals)",
+    "plain": "plain_meaning(script,tree,arguments,lines,steps)",
 }
-METHODS = {("programs", "Program"): ["rows", "__eq__"]}
+METHODS = {
+    ("programs", "Program"): "rows() __eq__(other)",
+    ("machines", "Machine"): "files() deeds() content(pipe) table(process) status(process) processes() shape() can() step(process) "
+                             "run(schedule,many) is_whole() left() waiting(process) copy() __eq__(other)",
+}
+LEFT_OUT = {"Machine": {"signals": ()}, "script_machine": {"signals": ()}}
 ERRORS = """BadScript(script) BadShellText(line,sign) BadHeldText(text) BadScope(scope) BadWords(index) BadAnswers(index)
 BadShellWord(word) BadSum(total) BadValues(held) BadChunks(index) BadSimple(word) BadLine(line) BadTree(tree)
 BadPath(path) BadString(text) BadWay(way) BadDirectories(index) BadFiles(index) BadRows(index) BadProgram(program)
@@ -63,13 +78,17 @@ class Interface(unittest.TestCase):
             defined = top_definitions(file)
             for name, parameters in signatures(text):
                 self.assertIn(name, defined)
-                self.assertEqual(list(inspect.signature(getattr(module, name)).parameters), parameters, name)
+                found = inspect.signature(getattr(module, name)).parameters
+                self.assertEqual(list(found), parameters, name)
+                defaults = {word: one.default for word, one in found.items() if one.default is not one.empty}
+                self.assertEqual(defaults, LEFT_OUT.get(name, {}))
 
     def test_methods_stand_in_their_classes(self):
         for (file, name), methods in METHODS.items():
-            inside = [node.name for node in top_definitions(file)[name].body if isinstance(node, ast.FunctionDef)]
-            for method in methods:
+            inside = {node.name: node for node in top_definitions(file)[name].body if isinstance(node, ast.FunctionDef)}
+            for method, parameters in signatures(methods):
                 self.assertIn(method, inside)
+                self.assertEqual([arg.arg for arg in inside[method].args.args], ["self", *parameters])
 
     def test_errors(self):
         for file, text in (("errors", ERRORS), ("refusals", REFUSALS)):
