@@ -1,0 +1,112 @@
+"""Rows of deeds that fit a net, what happened ahead of what in them, and which deeds depend on one another."""
+
+from everypipe.aheads import Links, pasts_of
+from everypipe.deedforms import deed_of
+from everypipe.kinds import is_listed
+from everypipe.nets import Fitting, Net, is_net
+from everypipe.refusals import BadDeed, BadNet, BadRow
+
+
+def first_misfit(net, row):
+    """As misfit, of a net in a copy."""
+    if not is_listed(row):
+        return (0, "form")
+    deeds = [deed_of(thing) for thing in row]
+    fitting = Fitting(net, deeds)
+    for at, deed in enumerate(deeds):
+        if deed is None:
+            return (at, "form")
+        if not fitting.can(deed):
+            return (at, "order")
+        fitting.do(deed)
+    return None
+
+
+def misfit(net, row):
+    if not is_net(net):
+        raise BadNet(net)
+    return first_misfit(Net(net), row)
+
+
+def links_of(net, row):
+    """The links of a row; both are looked at."""
+    if not is_net(net):
+        raise BadNet(net)
+    told = Net(net)
+    if first_misfit(told, row) is not None:
+        raise BadRow(row)
+    return Links(told, [deed_of(thing) for thing in row])
+
+
+def counts(net, row):
+    return pasts_of(links_of(net, row))
+
+
+def made_path(deed):
+    """The path of the file that a make makes."""
+    return deed[3] if deed[2] == "" else deed[2] + "/" + deed[3]
+
+
+def path_of(deed):
+    """The path that a deed is of, None if it is of none."""
+    word, thing = deed[1], deed[2]
+    if word in ("write", "cut", "find", "list"):
+        return thing
+    if word == "make":
+        return made_path(deed)
+    return thing[0] if word in ("read", "done") else None
+
+
+def is_changed_by(one, other):
+    """Whether one changes, or makes, or signs to, what the other one is of."""
+    word = one[1]
+    if word in ("write", "cut"):
+        return other[1] in ("write", "cut", "read", "done") and path_of(other) == one[2]
+    if word == "make":
+        return path_of(other) == made_path(one) or (other[1] == "list" and other[2] == one[2])
+    return word == "signal" and one[2] == other[0]
+
+
+def are_dependent(one, other):
+    """As dependent, of deeds in copies."""
+    if one[0] == other[0]:
+        return False
+    for words in (("put", "broken"), ("take", "heard")):
+        if one[1] in words and other[1] in words:
+            return one[2] is not None and one[2] == other[2]
+    if one[1] in ("read", "done") and other[1] in ("read", "done"):
+        return one[2][1] == other[2][1]
+    return is_changed_by(one, other) or is_changed_by(other, one)
+
+
+def dependent(one, other):
+    former, latter = deed_of(one), deed_of(other)
+    if former is None:
+        raise BadDeed(one)
+    if latter is None:
+        raise BadDeed(other)
+    return are_dependent(former, latter)
+
+
+def past_to_order(links, pasts, at):
+    """The past of a deed that orders it behind others; of a put or a take it is that of what its process did before."""
+    if links.deeds[at][1] not in ("put", "broken", "take", "heard"):
+        return pasts[at]
+    own = links.own[at]
+    return {} if own is None else pasts[own]
+
+
+def pair_by(links, pasts):
+    """The first pair of dependent deeds of which the former is not in the past of the later, None if there is none."""
+    for later, deed in enumerate(links.deeds):
+        past = past_to_order(links, pasts, later)
+        for former in range(later):
+            other = links.deeds[former]
+            if are_dependent(other, deed) and pasts[former][other[0]] > past.get(other[0], 0):
+                return (former, later)
+    return None
+
+
+def first_pair(net, row):
+    links = links_of(net, row)
+    return pair_by(links, pasts_of(links))
