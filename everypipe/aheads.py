@@ -14,14 +14,14 @@ class Links:
     def __init__(self, net, deeds):
         self.net = net
         self.fitting = Fitting(net, deeds)
-        self.deeds = deeds
+        self.row_deeds = deeds
         self.own = []
         self.firm = []
         self.stops = []
         self.last = {}
         self.puts = {}
         self.takes = {}
-        self.ends = {}
+        self.over_at = {}
         self.let_go = {}
         self.signals = {}
         for at, deed in enumerate(deeds):
@@ -35,7 +35,7 @@ class Links:
         for end in self.fitting.gone(deed):
             self.let_go[(process, end)] = at
         if word in ("over", "broken"):
-            self.ends[process] = at
+            self.over_at[process] = at
         elif word == "start":
             for child in thing:
                 self.last[child] = at
@@ -70,14 +70,14 @@ class Links:
         if thing is None:
             return []
         if word in ("wait", "ask", "over"):
-            return [(thing, self.ends[thing])]
+            return [(thing, self.over_at[thing])]
         if word not in ("heard", "broken"):
             return []
         end = (thing, "put" if word == "heard" else "take")
         holders = self.net.holders(end[0], end[1])
         return [(name, self.let_go[(name, end)]) for name in holders if (name, end) in self.let_go]
 
-    def ahead(self, at):
+    def all_ahead(self, at):
         """All deeds directly ahead of a deed, of its own process the last one alone."""
         own = [] if self.own[at] is None else [self.own[at]]
         return [*own, *self.firm[at], *[place for _, place in self.stops[at]]]
@@ -86,9 +86,9 @@ class Links:
 def pasts_of(links):
     """The list that has for each deed the dict from all processes to how many deeds of each are ahead of it."""
     pasts = []
-    for at, deed in enumerate(links.deeds):
-        past = {name: 0 for name in links.net.ends}
-        for place in links.ahead(at):
+    for at, deed in enumerate(links.row_deeds):
+        past = {name: 0 for name in links.net.may_hold}
+        for place in links.all_ahead(at):
             for name, many in pasts[place].items():
                 if many > past[name]:
                     past[name] = many

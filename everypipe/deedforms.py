@@ -7,11 +7,12 @@ from everypipe.wishes import is_side
 
 # Of each word the kinds of the two things behind it.
 DEED_KINDS = {
-    "take": ("pipe", "line"), "heard": ("pipe or none", "none"), "put": ("pipe or none", "line"), "broken": ("pipe", "line"),
-    "read": ("handle", "line"), "done": ("handle", "none"), "write": ("path", "line"), "cut": ("path", "none"),
-    "make": ("path", "name"), "list": ("path", "names or none"), "find": ("path", "kind or none"), "drop": ("end", "none"),
-    "start": ("pipes", "pipes"), "become": ("ends", "none"), "wait": ("pipe", "none"), "ask": ("pipe", "status"),
-    "over": ("pipe or none", "status"), "signal": ("pipe", "sign"), "trap": ("trapped", "none"),
+    "take": ("pipe", "line"), "heard": ("pipe or none", "none"), "put": ("pipe or none", "line"),
+    "broken": ("pipe", "line"), "read": ("handle", "line"), "done": ("handle", "none"), "write": ("path", "line"),
+    "cut": ("path", "none"), "make": ("path", "name"), "list": ("path", "names or none"),
+    "find": ("path", "kind or none"), "drop": ("end", "none"), "start": ("pipes", "pipes"), "become": ("ends", "none"),
+    "wait": ("pipe", "none"), "ask": ("pipe", "status"), "over": ("pipe or none", "status"), "signal": ("pipe", "sign"),
+    "trap": ("trapped", "none"),
 }
 
 

@@ -79,7 +79,8 @@ def torn_at(tree, holders, rooms, process, sign):
     torn = []
     for files, _ in found[:-1]:
         pairs = files_of(files)
-        torn.append([path for path, lines in pairs if before.get(path, None) != lines and behind.get(path, None) != lines])
+        other = [(path, lines) for path, lines in pairs if before.get(path, None) != lines]
+        torn.append([path for path, lines in other if behind.get(path, None) != lines])
     return torn
 
 

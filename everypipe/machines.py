@@ -71,11 +71,11 @@ class Machine:
         return self.begun(process).outcome
 
     def processes(self):
-        return list(self.world.names)
+        return list(self.world.begun_names)
 
     def shape(self):
         rooms = {pipe: self.world.room(pipe) for pipe in sorted(self.world.pipes)}
-        return (rooms, {name: list(self.world.folk[name].held) for name in self.world.names})
+        return (rooms, {name: list(self.world.folk[name].held) for name in self.world.begun_names})
 
     def can(self):
         folk = [self.world.folk[name] for name in self.left()]
@@ -102,7 +102,7 @@ class Machine:
         return len(self.can()) == 0
 
     def left(self):
-        return [name for name in self.world.names if self.world.folk[name].outcome is None]
+        return [name for name in self.world.begun_names if self.world.folk[name].outcome is None]
 
     def waiting(self, process):
         found = self.begun(process)

@@ -30,19 +30,19 @@ def is_net(thing):
 
 
 class Net:
-    """A right net in a copy: rooms of pipes, and ends, the dict from processes, ascending, to the ends they may hold."""
+    """A right net in a copy: may_hold is the dict from processes, ascending, to the ends that it lets them hold."""
 
     def __init__(self, net):
         self.rooms = {pipe: net[0][pipe] for pipe in net[0]}
-        self.ends = {name: [(tuple(end[0]), end[1]) for end in net[1][name]] for name in sorted(net[1])}
+        self.may_hold = {name: [(tuple(end[0]), end[1]) for end in net[1][name]] for name in sorted(net[1])}
 
     def holders(self, pipe, side):
         """The processes that may hold an end."""
-        return [name for name, ends in self.ends.items() if (pipe, side) in ends]
+        return [name for name, ends in self.may_hold.items() if (pipe, side) in ends]
 
     def handed(self, process):
         """The ends that a process has from its beginning on."""
-        return [end for end in self.ends[process] if end[0][:-1] != process]
+        return [end for end in self.may_hold[process] if end[0][:-1] != process]
 
 
 def things_started(deeds):
@@ -72,7 +72,7 @@ class Fitting:
         self.many_children = {}
         self.many_pipes = {}
         children, pipes = things_started(deeds)
-        for name in net.ends:
+        for name in net.may_hold:
             if name not in children:
                 self.begin(name)
         for pipe in net.rooms:
@@ -127,7 +127,7 @@ class Fitting:
         if not all([pipe in self.net.rooms for pipe in pipes]):
             return False
         for child in children:
-            if child not in self.net.ends or child in self.held:
+            if child not in self.net.may_hold or child in self.held:
                 return False
             if not all([end[0] in pipes or end in self.held[process] for end in self.net.handed(child)]):
                 return False
@@ -157,5 +157,5 @@ class Fitting:
             for child in thing:
                 self.begin(child)
             self.many_pipes[process] = self.many_pipes.get(process, 0) + len(what)
-            own = [end for end in self.net.ends[process] if end[0] in what]
+            own = [end for end in self.net.may_hold[process] if end[0] in what]
             self.held[process] = [*self.held[process], *own]

@@ -90,7 +90,7 @@ def dependent(one, other):
 
 def past_to_order(links, pasts, at):
     """The past of a deed that orders it behind others; of a put or a take it is that of what its process did before."""
-    if links.deeds[at][1] not in ("put", "broken", "take", "heard"):
+    if links.row_deeds[at][1] not in ("put", "broken", "take", "heard"):
         return pasts[at]
     own = links.own[at]
     return {} if own is None else pasts[own]
@@ -98,10 +98,10 @@ def past_to_order(links, pasts, at):
 
 def pair_by(links, pasts):
     """The first pair of dependent deeds of which the former is not in the past of the later, None if there is none."""
-    for later, deed in enumerate(links.deeds):
+    for later, deed in enumerate(links.row_deeds):
         past = past_to_order(links, pasts, later)
         for former in range(later):
-            other = links.deeds[former]
+            other = links.row_deeds[former]
             if are_dependent(other, deed) and pasts[former][other[0]] > past.get(other[0], 0):
                 return (former, later)
     return None

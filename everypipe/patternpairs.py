@@ -53,7 +53,7 @@ def count_matches(pattern, many):
             for other, size in zip(behinds[number], sizes):
                 nexts[other] = nexts.get(other, 0) + count * size
         counts = nexts
-    return sum([count for number, count in counts.items() if walk.ends(number)[0]])
+    return sum([count for number, count in counts.items() if walk.endings(number)[0]])
 
 
 class Behinds:

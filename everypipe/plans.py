@@ -51,7 +51,8 @@ def chain(tasks):
     found = []
     height = max(list(heights.values()), default=0)
     while height > 0:
-        found.append([name for name in needs if heights[name] == height and (found == [] or found[-1] in needs[name])][0])
+        able = [name for name in needs if heights[name] == height and (len(found) == 0 or found[-1] in needs[name])]
+        found.append(able[0])
         height -= 1
     return found
 

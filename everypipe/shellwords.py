@@ -35,7 +35,7 @@ class SayFrame:
 
 class ReadFrame:
     def __init__(self, names):
-        self.names = names
+        self.parameters = names
 
     def go(self, shell):
         n = shell.view.get(0, None)
@@ -46,9 +46,9 @@ class ReadFrame:
 
     def answered(self, shell, line):
         rest = "" if line is None else line
-        for at, name in enumerate(self.names):
+        for at, name in enumerate(self.parameters):
             rest = rest.strip(" ")
-            if at < len(self.names) - 1:
+            if at < len(self.parameters) - 1:
                 shell.worths[name], _, rest = rest.partition(" ")
             else:
                 shell.worths[name] = rest

@@ -33,7 +33,8 @@ def plan_of_two(needed, names):
     plan = []
     done = {}
     while len(done) < len(names):
-        able = [name for name in names if name not in done and all([n in done or n not in labels for n in needed[name]])]
+        rest = [name for name in names if name not in done]
+        able = [name for name in rest if not any([other in needed[name] for other in rest])]
         ranked = sorted([(-labels[name], at) for at, name in enumerate(able)])
         plan.append([able[at] for _, at in ranked[:2]])
         for name in plan[-1]:

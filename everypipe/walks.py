@@ -30,7 +30,7 @@ class Walk:
             self.least_lines.append(line)
         return self.numbers[stand]
 
-    def ends(self, number):
+    def endings(self, number):
         """Of each pattern whether it matches the lines that lead to a stand."""
         return tuple([1 in places for places in self.stands[number]])
 
@@ -50,7 +50,7 @@ def least_such(patterns, wanted):
     walk = Walk(patterns)
     number = 0
     while number < len(walk.stands):
-        if walk.ends(number) in wanted:
+        if walk.endings(number) in wanted:
             return walk.least_lines[number]
         walk.behind(number)
         number += 1

@@ -24,12 +24,12 @@ class World:
         self.sides = {}
         self.handles = {}
         self.folk = {}
-        self.names = []
+        self.begun_names = []
         self.row = []
 
     def begin(self, process):
         self.folk[process.name] = process
-        self.names = sorted([*self.names, process.name])
+        self.begun_names = sorted([*self.begun_names, process.name])
         for pair in sides_of(process.leads):
             self.sides[pair] = self.sides.get(pair, 0) + 1
         self.put_signals(process)
@@ -80,7 +80,7 @@ def copied_world(world):
     other.sides = {pair: many for pair, many in world.sides.items()}
     other.handles = {name: copied_handle(handle) for name, handle in world.handles.items()}
     other.folk = {name: copied_process(process) for name, process in world.folk.items()}
-    other.names = list(world.names)
+    other.begun_names = list(world.begun_names)
     other.row = list(world.row)
     return other
 
@@ -98,9 +98,9 @@ def are_leads_alike(one, other, process, twin):
 
 
 def are_folk_alike(one, other):
-    if one.names != other.names:
+    if one.begun_names != other.begun_names:
         return False
-    for name in one.names:
+    for name in one.begun_names:
         process, twin = one.folk[name], other.folk[name]
         if process.outcome != twin.outcome or process.pending != twin.pending or process.answers != twin.answers:
             return False

@@ -38,9 +38,20 @@ FUNCTIONS = {
     "callings": "piece_of(strings)",
     "scriptmachines": "script_machine(script,tree,arguments,lines,rooms,signals)",
     "plain": "plain_meaning(script,tree,arguments,lines,steps)",
+    "rowmeanings": "row_meaning(pieces,lines,most)",
+    "tasks": "Tasks(rows) order_of(tasks) need_ring(tasks) task_race(tasks)",
+    "plans": "is_plan(tasks,many,thing) chain(tasks) level_plan(tasks) high_plan(tasks,many) height_paper(tasks,many)",
+    "twoplans": "two_plan(tasks) two_paper(tasks) paper_rounds(tasks,thing)",
+    "builds": "built(tasks,tree,records,make) why_made(tasks,tree,records)",
+    "slots": "by_slots(tasks,many,lasts)",
+    "everypoint": "points_of(tree,holders,rooms,process) left_at(tree,holders,rooms,process,sign) "
+                  "first_other(tree,holders,rooms,process,sign,allowed) torn_files(tree,holders,rooms,process,sign) "
+                  "first_torn(tree,holders,rooms,process,sign)",
+    "orders": "misfit(net,row) counts(net,row) dependent(one,other) first_pair(net,row)",
 }
 METHODS = {
     ("programs", "Program"): "rows() __eq__(other)",
+    ("tasks", "Tasks"): "rows() names() __eq__(other)",
     ("machines", "Machine"): "files() deeds() content(pipe) table(process) status(process) processes() shape() can() step(process) "
                              "run(schedule,many) is_whole() left() waiting(process) copy() __eq__(other)",
 }

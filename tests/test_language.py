@@ -152,11 +152,16 @@ class Language(unittest.TestCase):
     def test_builtins(self):
         for name, tree in trees().items():
             top = [word for word, _ in bound(tree)]
+            measured = set()
             for node in ast.walk(tree):
                 if isinstance(node, ast.Name) and isinstance(node.ctx, ast.Load) and hasattr(builtins, node.id):
-                    self.assertIn(node.id, BUILTINS, (name, node.lineno))
+                    self.assertIn(node.id, [*BUILTINS, "set"], (name, node.lineno))
+                if isinstance(node, ast.Call) and ast.unparse(node.func) == "len" and isinstance(node.args[0], ast.Call):
+                    measured.add(id(node.args[0].func))
+                if isinstance(node, ast.Name) and node.id == "set":
+                    self.assertIn(id(node), measured, (name, node.lineno))
             for function in functions(tree):
-                known = top + own_names(function) + BUILTINS
+                known = top + own_names(function) + BUILTINS + ["set"]
                 for node in ast.walk(function):
                     if isinstance(node, ast.Name) and isinstance(node.ctx, ast.Load):
                         self.assertIn(node.id, known, (name, node.lineno))
@@ -180,8 +185,8 @@ class Language(unittest.TestCase):
                 elif isinstance(node, ast.Attribute):
                     self.assertIn(node.attr, kept, (name, node.lineno))
                 if isinstance(node, ast.Call) and node.keywords:
-                    self.assertIn(ast.unparse(node.func), ("min", "max"), (name, node.lineno))
-                    self.assertEqual([keyword.arg for keyword in node.keywords], ["default"], (name, node.lineno))
+                    keyword = {"min": "default", "max": "default", "sorted": "reverse"}.get(ast.unparse(node.func))
+                    self.assertEqual([one.arg for one in node.keywords], [keyword], (name, node.lineno))
 
     def test_errors(self):
         for name, tree in trees().items():
