@@ -173,8 +173,9 @@ class Play:
             thing.lines.append(line)
         elif word == "behind":
             thing.line = line
-            at = self.tasks.index(thing.ahead)
-            thing.ahead.kept = self.tasks[at:]
+            piece = thing.ahead
+            at = self.tasks.index(piece)
+            piece.kept = self.tasks[at:]
             del self.tasks[at:]
 
     def opened_port(self, player, wish):
@@ -229,13 +230,15 @@ class Play:
         """The piece ahead goes on at once, to its own end."""
         task.is_over = True
         self.tasks.pop()
-        if task.link_behind is not None:
-            task.link_behind.is_ahead_over = True
+        behind = task.link_behind
+        if behind is not None:
+            behind.is_ahead_over = True
         link = task.link_ahead
         if link is not None:
             link.is_behind_over = True
-            if not link.ahead.is_over:
-                self.tasks.extend(link.ahead.kept)
+            piece = link.ahead
+            if not piece.is_over:
+                self.tasks.extend(piece.kept)
 
 
 def led_ports(ports, leads, taken, put):

@@ -37,12 +37,13 @@ class Machine:
     def __init__(self, tree, holders, rooms, signals=()):
         if not is_tree(tree):
             raise BadTree(tree)
-        self.world = World(copied(tree), {(): 1}, [])
-        told = opened_holders(self.world, holders)
-        self.world.rooms = told_rooms(rooms)
-        self.world.signals = told_signals(signals)
+        world = World(copied(tree), {(): 1}, [])
+        told = opened_holders(world, holders)
+        world.rooms = told_rooms(rooms)
+        world.signals = told_signals(signals)
         for at, (actor, leads) in enumerate(told):
-            self.world.begin(Process((at,), actor, leads))
+            world.begin(Process((at,), actor, leads))
+        self.world = world
 
     def files(self):
         return copied(self.world.tree)

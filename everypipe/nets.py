@@ -58,10 +58,21 @@ def things_started(deeds):
     return (children, pipes)
 
 
+def next_names(process, taken, many):
+    """The least names of so many children, or pipes, of a process that are not yet taken."""
+    names = []
+    number = 0
+    while len(names) < many:
+        if (*process, number) not in taken:
+            names.append((*process, number))
+        number += 1
+    return tuple(names)
+
+
 class Fitting:
     """How a net stands behind some deeds that fit: held are the ends that each process that began holds now.
 
-    outcomes are the statuses of those that are over, stops the indexes of the deeds by which ends were let go.
+    outcomes are the statuses of those that are over, pipes_there the pipes that are there.
     """
 
     def __init__(self, net, deeds):
@@ -69,19 +80,14 @@ class Fitting:
         self.lines = {pipe: [] for pipe in net.rooms}
         self.held = {}
         self.outcomes = {}
-        self.many_children = {}
-        self.many_pipes = {}
         children, pipes = things_started(deeds)
         for name in net.may_hold:
             if name not in children:
                 self.begin(name)
-        for pipe in net.rooms:
-            if pipe not in pipes:
-                self.many_pipes[pipe[:-1]] = self.many_pipes.get(pipe[:-1], 0) + 1
+        self.pipes_there = {pipe: True for pipe in net.rooms if pipe not in pipes}
 
     def begin(self, name):
         self.held[name] = self.net.handed(name)
-        self.many_children[name[:-1]] = self.many_children.get(name[:-1], 0) + 1
 
     def holds(self, process, pipe, side):
         return (pipe, side) in self.held[process]
@@ -119,15 +125,12 @@ class Fitting:
         return is_closed if word == "broken" else not is_closed and len(lines) < self.net.rooms[pipe]
 
     def can_start(self, process, children, pipes):
-        first, many = self.many_children.get(process, 0), self.many_pipes.get(process, 0)
-        if children != tuple([(*process, first + at) for at in range(len(children))]):
+        if children != next_names(process, self.held, len(children)):
             return False
-        if pipes != tuple([(*process, many + at) for at in range(len(pipes))]):
-            return False
-        if not all([pipe in self.net.rooms for pipe in pipes]):
+        if pipes != next_names(process, self.pipes_there, len(pipes)) or not all([pipe in self.net.rooms for pipe in pipes]):
             return False
         for child in children:
-            if child not in self.net.may_hold or child in self.held:
+            if child not in self.net.may_hold:
                 return False
             if not all([end[0] in pipes or end in self.held[process] for end in self.net.handed(child)]):
                 return False
@@ -156,6 +159,6 @@ class Fitting:
         elif word == "start":
             for child in thing:
                 self.begin(child)
-            self.many_pipes[process] = self.many_pipes.get(process, 0) + len(what)
+            self.pipes_there.update({pipe: True for pipe in what})
             own = [end for end in self.net.may_hold[process] if end[0] in what]
             self.held[process] = [*self.held[process], *own]

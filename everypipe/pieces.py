@@ -1,6 +1,6 @@
-"""The pieces of rows: what is one, and what they come to in copies of just the kinds that are told."""
+"""The pieces that given programs are called by: what is one."""
 
-from everypipe.kinds import is_integer, is_line_of_signs, is_listed, is_number, is_number_to, word_of
+from everypipe.kinds import is_integer, is_line_of_signs, is_number, is_number_to, word_of
 from everypipe.patterns import is_pattern
 
 # What stands behind the word of each piece, by the kinds that is_piece_part tells of.
@@ -31,8 +31,3 @@ def is_piece(thing):
     if len(thing) != len(kinds) + 1:
         return False
     return all([is_piece_part(kind, part) for kind, part in zip(kinds, thing[1:])])
-
-
-def tupled(thing):
-    """A thing with tuples in the place of all lists in it."""
-    return tuple([tupled(part) for part in thing]) if is_listed(thing) else thing

@@ -97,6 +97,8 @@ class Language(unittest.TestCase):
                     self.assertTrue(all(arg.annotation is None for arg in arguments.args), place)
                     for inner in ast.walk(node):
                         self.assertFalse(inner is not node and isinstance(inner, ast.FunctionDef), place)
+                if isinstance(node, ast.Attribute) and isinstance(node.ctx, ast.Store):
+                    self.assertIsInstance(node.value, ast.Name, place)
                 if isinstance(node, ast.Try):
                     self.assertFalse(node.finalbody, place)
                 if isinstance(node, ast.SetComp):

@@ -131,7 +131,8 @@ class Misfits(unittest.TestCase):
             net, row = machine.shape(), machine.deeds()
             self.assertIsNone(misfit(net, row))
             self.assertIsNone(misfit(changed(net), changed(row)))
-            self.assertIsNone(misfit(net, row[:maker.random.randrange(len(row) + 1)] if all(deed[1] != "start" for deed in row) else row))
+            for at in range(len(row)):
+                self.assertIsNone(misfit(net, row[:at]))
 
     def test_nets(self):
         for function in (misfit, counts, first_pair):
