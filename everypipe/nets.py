@@ -127,7 +127,9 @@ class Fitting:
     def can_start(self, process, children, pipes):
         if children != next_names(process, self.held, len(children)):
             return False
-        if pipes != next_names(process, self.pipes_there, len(pipes)) or not all([pipe in self.net.rooms for pipe in pipes]):
+        if pipes != next_names(process, self.pipes_there, len(pipes)):
+            return False
+        if not all([pipe in self.net.rooms for pipe in pipes]):
             return False
         for child in children:
             if child not in self.net.may_hold:
