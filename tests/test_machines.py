@@ -11,6 +11,7 @@ from everypipe.programs import Program
 from everypipe.refusals import BadProcess, BadSchedule, CannotStep
 from everypipe.signs import leaving_out
 from helper import Maker, any_objects, changed, is_alike, is_new
+from second_machine import SecondMachine, Waits
 
 ONE = {(): 1}
 TAKE, PUT = ("pipe", (0,), "take"), ("pipe", (0,), "put")
@@ -569,10 +570,14 @@ class RandomMaker(Maker):
                                ("lines", ["l", "m"])]) for n in range(5) if self.chance(70)}
         return (self.actor(2), leads)
 
-    def machine(self):
+    def made_of(self):
+        """What a machine is made of."""
         rooms = {(): self.pick([1, 2]), (0,): self.pick([1, 3])}
         signals = [((0,), self.random.randrange(4), self.pick(["int", "kill"]))] if self.chance(30) else []
-        return Machine({"f": ["x"], "d": {}}, self.some(self.holder, 1, 3), rooms, signals)
+        return ({"f": ["x"], "d": {}}, self.some(self.holder, 1, 3), rooms, signals)
+
+    def machine(self):
+        return Machine(*self.made_of())
 
     def schedule(self, most=12):
         return [self.random.randrange(4) for _ in range(self.random.randrange(most))]
@@ -636,6 +641,32 @@ class ItHolds(unittest.TestCase):
                     self.assertNotIn((deed[2], "take"), held)
                     self.assertEqual(machine.status(name), 141)
                 self.check(machine)
+
+    def test_as_a_second_machine(self):
+        maker = RandomMaker(5)
+        for _ in range(400):
+            made_of = maker.made_of()
+            machine, second = Machine(*made_of), SecondMachine(*made_of)
+            for number in maker.schedule(40) + [0] * 30:
+                behind = {}
+                for name in sorted(second.processes):
+                    if second.processes[name]["status"] is None:
+                        try:
+                            behind[name] = second.next(name)
+                            self.assertIsNone(machine.waiting(name))
+                        except Waits as waits:
+                            self.assertEqual(machine.waiting(name), waits.thing)
+                self.assertEqual(machine.can(), list(behind))
+                if not behind:
+                    break
+                name = list(behind)[number % len(behind)]
+                second = behind[name]
+                self.assertTrue(is_alike(machine.step(name), second.row[-1]))
+                self.assertEqual(machine.files(), second.tree)
+                self.assertEqual({name: machine.table(name) for name in machine.processes()},
+                                 {name: dict(sorted(process["table"].items())) for name, process in second.processes.items()})
+            self.assertTrue(is_alike(machine.deeds(), second.row))
+            self.assertEqual([machine.status(name) for name in machine.processes()], [second.processes[name]["status"] for name in machine.processes()])
 
     def test_runs_in_pieces_and_on_copies(self):
         maker = RandomMaker(2)
