@@ -85,7 +85,7 @@ class Play:
             self.do(player, player.doer.wished())
         return self.first.outcome
 
-    def count(self):
+    def count_step(self):
         self.steps = self.steps - 1
         if self.steps < 0:
             raise NoMeaning("long")
@@ -94,14 +94,14 @@ class Play:
         word = "" if wish is None else wish[0]
         k = None if wish is None else child_asked(wish)
         if word == "" or (k is not None and k >= len(player.born)):
-            self.count()
+            self.count_step()
             self.end_player(player, 120)
         elif word == "close" or (word == "open" and wish[3] == "lines"):
             self.do_silent(player, wish)
         elif word == "take":
             self.take(player, player.ports.get(wish[1], ("", None)))
         else:
-            self.count()
+            self.count_step()
             self.do_counted(player, wish, k)
 
     def do_counted(self, player, wish, k):
@@ -132,14 +132,14 @@ class Play:
         player.answer("" if wish[0] == "open" else None)
         player.many_silent = many
         if many == MOST_SILENT:
-            self.count()
+            self.count_step()
             self.end_player(player, 125)
 
     def take(self, player, port):
         if port[0] == "ahead":
             self.take_ahead(player, port[1])
             return
-        self.count()
+        self.count_step()
         line = None
         if port[0] == "lines":
             store = port[1]
@@ -156,7 +156,7 @@ class Play:
                 raise NoMeaning("none")
             self.tasks.extend(link.ahead.kept)
             return
-        self.count()
+        self.count_step()
         line = link.line
         link.line = None
         player.answer(line)
