@@ -94,6 +94,7 @@ class Built(unittest.TestCase):
                 why = [name for name, _, _ in why_made(tasks, tree, records)]
                 whole, _, all_made = built(tasks, tree, {}, maker_of)
                 self.assertEqual(all_made, order_of(tasks))
+                self.assertEqual(self.made_in_any_order(maker, tasks, tree, maker_of), whole)
                 calls.clear()
                 new, kept, made = built(tasks, tree, records, maker_of)
                 self.assertEqual(calls, made)
@@ -109,6 +110,15 @@ class Built(unittest.TestCase):
                     if maker.chance(10):
                         tree.pop(file, None)
         self.assertGreater(done, 100)
+
+    def made_in_any_order(self, maker, tasks, tree, make_one):
+        """The tree that comes of all tasks, each made behind what it needs, else in any order."""
+        tree, rest = dict(tree), tasks.rows()
+        while rest:
+            name, _, reads, _ = row = maker.pick([row for row in rest if not any(other[0] in row[1] for other in rest)])
+            rest.remove(row)
+            tree.update(make_one(name, {file: tree.get(file) for file in sorted(reads)}))
+        return tree
 
     def test_wrong_made(self):
         tasks = Tasks([("a", [], ["f"], ["g"]), ("b", ["a"], [], [])])
