@@ -1,7 +1,8 @@
 """Signs at every point of a process: what each of them leaves, and which files it leaves torn."""
 
 from everypipe.filelists import files_of
-from everypipe.kinds import is_integer, is_listed, is_listed_of
+from everypipe.kinds import is_listed
+from everypipe.likeness import is_like
 from everypipe.machines import Machine
 from everypipe.refusals import BadAllowed, BadProcess, BadSign
 from everypipe.signs import is_process_name, is_sign_word
@@ -46,19 +47,6 @@ def all_left(tree, holders, rooms, process, sign):
 
 def left_at(tree, holders, rooms, process, sign):
     return all_left(tree, holders, rooms, process, sign)[:-1]
-
-
-def is_like(thing, told):
-    """Whether an object is the same as what is told: lists and tuples alike, no bool an integer."""
-    if isinstance(told, dict):
-        if not isinstance(thing, dict) or len(thing) != len(told):
-            return False
-        return all([name in thing and is_like(thing[name], told[name]) for name in told])
-    if is_listed(told):
-        return is_listed_of(thing, len(told)) and all([is_like(one, other) for one, other in zip(thing, told)])
-    if is_integer(told):
-        return is_integer(thing) and thing == told
-    return thing is None if told is None else isinstance(thing, str) and thing == told
 
 
 def first_other(tree, holders, rooms, process, sign, allowed):

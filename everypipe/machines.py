@@ -15,12 +15,24 @@ def told_deed(deed):
     return (*deed[:3], list(deed[3])) if isinstance(deed[3], list) else deed
 
 
-def check_run(schedule, many):
+def schedule_fault(schedule):
+    """The index of the first thing that is no number, 0 for no list, None if it is a schedule."""
     if not is_listed(schedule):
-        raise BadSchedule(0)
+        return 0
     for at, number in enumerate(schedule):
         if not is_number(number):
-            raise BadSchedule(at)
+            return at
+    return None
+
+
+def check_schedule(schedule):
+    fault = schedule_fault(schedule)
+    if fault is not None:
+        raise BadSchedule(fault)
+
+
+def check_run(schedule, many):
+    check_schedule(schedule)
     if not is_number(many):
         raise BadMany(many)
 

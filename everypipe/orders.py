@@ -96,13 +96,62 @@ def past_to_order(links, pasts, at):
     return {} if own is None else pasts[own]
 
 
+def touched(deed):
+    """What a deed is of: of two that are dependent, and no signals, both are of one such thing."""
+    word, thing = deed[1], deed[2]
+    if word in ("put", "broken", "take", "heard"):
+        side = "put" if word in ("put", "broken") else "take"
+        return [] if thing is None else [(side, thing)]
+    path = path_of(deed)
+    things = [] if path is None else [("path", path)]
+    if word in ("read", "done"):
+        things.append(("handle", thing[1]))
+    return [*things, ("names", thing)] if word in ("make", "list") else things
+
+
+class Meetings:
+    """The deeds of a row so far, by what they are of, by who did them, and by whom they sign to."""
+
+    def __init__(self):
+        self.by_thing = {}
+        self.by_process = {}
+        self.by_receiver = {}
+
+    def put(self, at, deed):
+        for thing in touched(deed):
+            self.by_thing.setdefault(thing, []).append(at)
+        self.by_process.setdefault(deed[0], []).append(at)
+        if deed[1] == "signal":
+            self.by_receiver.setdefault(deed[2], []).append(at)
+
+    def with_deed(self, deed):
+        """The ascending list of the deeds so far that may be dependent on one."""
+        found = {at: True for at in self.by_receiver.get(deed[0], [])}
+        for thing in touched(deed):
+            found.update({at: True for at in self.by_thing.get(thing, [])})
+        if deed[1] == "signal":
+            found.update({at: True for at in self.by_process.get(deed[2], [])})
+        return sorted(found)
+
+
+def dependent_ahead(deeds):
+    """For each deed of a row the ascending list of those ahead in the row that are dependent on it."""
+    meetings = Meetings()
+    found = []
+    for at, deed in enumerate(deeds):
+        found.append([former for former in meetings.with_deed(deed) if are_dependent(deeds[former], deed)])
+        meetings.put(at, deed)
+    return found
+
+
 def pair_by(links, pasts):
     """The first pair of dependent deeds of which the former is not in the past of the later, None if there is none."""
-    for later, deed in enumerate(links.row_deeds):
+    deeds = links.row_deeds
+    for later, formers in enumerate(dependent_ahead(deeds)):
         past = past_to_order(links, pasts, later)
-        for former in range(later):
-            other = links.row_deeds[former]
-            if are_dependent(other, deed) and pasts[former][other[0]] > past.get(other[0], 0):
+        for former in formers:
+            name = deeds[former][0]
+            if pasts[former][name] > past.get(name, 0):
                 return (former, later)
     return None
 

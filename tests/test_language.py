@@ -176,7 +176,8 @@ class Language(unittest.TestCase):
                 if isinstance(inner, ast.Attribute) and isinstance(inner.ctx, ast.Store)}
         for word in kept:
             self.assertNotIn(word, BARRED + BARRED_ATTRIBUTES)
-            self.assertNotIn(word, methods)
+            # Sessions have the method, errors the attribute: both stand in the interface.
+            self.assertNotIn(word, methods - {"word"})
         for word in methods:
             self.assertNotIn(word, ["decode", "encode", *BARRED])
         for name, tree in trees().items():
@@ -199,7 +200,7 @@ class Language(unittest.TestCase):
                     self.assertTrue(node.exc.func.id[0].isupper(), (name, node.lineno))
                 if isinstance(node, ast.ExceptHandler):
                     self.assertIsInstance(node.type, ast.Name, (name, node.lineno))
-                    self.assertIn(node.type.id, ("NeedOpen", "NoMeaning", "SumRefused"), (name, node.lineno))
+                    self.assertIn(node.type.id, ("NeedOpen", "NoMeaning", "SumRefused", "WrongSign"), (name, node.lineno))
 
     def test_iterated_at_once(self):
         for name, tree in trees().items():
