@@ -47,7 +47,7 @@ def next_gone(world, process):
 
 
 def many_barred_by_start(process):
-    """Of how many pipes that are new with its next wish, a start, somebody gets the put side and nobody the take side."""
+    """Of how many pipes that are new with its next wish, a start, somebody gets the put side alone."""
     wish = process.looked_ahead().wish
     leads = [*list(wish[2].values()), *[lead for _, table in wish[1] for lead in table.values()]]
     takes = [lead[1] for lead in leads if lead[0] == "new" and lead[2] == "take"]

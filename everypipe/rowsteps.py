@@ -2,8 +2,7 @@
 
 from everypipe.errors import BadMany
 from everypipe.kinds import is_listed_of, is_number
-from everypipe.patternpairs import least_line
-from everypipe.patterns import can_end
+from everypipe.neatness import is_ending, neat_of
 from everypipe.patterntexts import pattern_text
 from everypipe.refusals import BadStep
 from everypipe.rows import NO_LINES, told_row
@@ -44,9 +43,10 @@ def behind_numbers(row, at, word):
 def behind_idle(row, at):
     if row[at][0] != "grep":
         return None
-    if can_end(row[at][1]):
+    if is_ending(row[at][1]):
         return [("cat",)]
-    return [NO_LINES] if least_line(row[at][1]) is None else None
+    # A neat pattern matches some line unless it is none itself.
+    return [NO_LINES] if neat_of(row[at][1]) == ("none",) else None
 
 
 def many_nothing(row, at):

@@ -48,12 +48,33 @@ FUNCTIONS = {
                   "first_other(tree,holders,rooms,process,sign,allowed) torn_files(tree,holders,rooms,process,sign) "
                   "first_torn(tree,holders,rooms,process,sign)",
     "orders": "misfit(net,row) counts(net,row) dependent(one,other) first_pair(net,row)",
+    "lateness": "is_late(net,row) late_run(machine,many)",
+    "sureness": "cuts(net,row)",
+    "words": "word_of(net,row,waits) is_word(net,row,waits,thing)",
+    "looking": "looked_at(machine,many)",
+    "twos": "is_two(machine,thing,many) two_schedules(machine,many) left_alike(machine,one,other,many)",
+    "rings": "holders_of(machine,process) ring_of(machine) is_ring(machine,thing) ways_to_ring(machine)",
+    "rooms": "ends_by(tree,holders,rooms,signals,many) least_rooms(tree,holders,signals,most,many) "
+             "rooms_paper(tree,holders,rooms,signals,many) is_straight(tree,holders,rooms)",
+    "outcomes": "outcome_of(machine) script_outcome(script,tree,arguments,lines,rooms,schedule,many) unlike_outcomes(one,other)",
+    "onerun": "script_word(script,tree,arguments,lines,rooms,many) is_paper(machine,thing,many) paper_of(machine,many) "
+              "script_parting(script,other,tree,arguments,lines,rooms,many)",
+    "rows": "is_row(thing) row_lines(row,lines) row_status(row,lines) dead_pieces(row)",
+    "rowsteps": "steps_of(row) stepped(row,step) last_row(row) keeps_status(row,step) last_asked(row) row_needs(row,many)",
+    "rowchains": "row_chain(one,other) is_row_chain(one,other,thing) rewrite_fault(one,other,is_asked)",
+    "rowtexts": "row_text(row) row_fault(text) read_row(text)",
+    "replays": "again(machine,row) is_done_by(machine,thing) schedule_of(machine,row) led(machine,processes)",
+    "rowparts": "own_rows(row) parting(one,other) first_unlike(one,other)",
+    "allruns": "stands_of(machine,most) soonest(machine,one,other,most)",
+    "alikerows": "parting_within(one,other,lines,many) row_sort(row) marks_of(one,other) parting_stream(one,other)",
+    "sessions": "Session(tree,rooms) replayed(tree,rooms,texts,schedules,many) first_loose(tree,rooms,texts,many)",
 }
 METHODS = {
     ("programs", "Program"): "rows() __eq__(other)",
     ("tasks", "Tasks"): "rows() names() __eq__(other)",
     ("machines", "Machine"): "files() deeds() content(pipe) table(process) status(process) processes() shape() can() step(process) "
                              "run(schedule,many) is_whole() left() waiting(process) copy() __eq__(other)",
+    ("sessions", "Session"): "enter(text,schedule,many) now() history() defined() undo() redo() word(text,many) copy() __eq__(other)",
 }
 LEFT_OUT = {"Machine": {"signals": ()}, "script_machine": {"signals": ()}}
 ERRORS = """BadScript(script) BadShellText(line,sign) BadHeldText(text) BadScope(scope) BadWords(index) BadAnswers(index)
