@@ -72,9 +72,8 @@ def marks_of(one, other):
 def parting_stream(one, other):
     here, there = told_row(one), told_row(other)
     both = [*here, *there]
-    lines = marks_of_rows(here, there)
     if has_alone(both, SELECTING):
-        return first_selected(first_way(here)[1], first_way(there)[1], lines)
+        return first_selected(first_way(here)[1], first_way(there)[1], marks_of_rows(here, there))
     if has_alone(both, SORTING):
-        return first_list(here, there, lines, SORTED_LINES)
+        return first_list(here, there, marks_of_rows(here, there), SORTED_LINES)
     raise UnlikeRows()

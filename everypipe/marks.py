@@ -71,4 +71,5 @@ def marks(patterns):
 
 def sorted_lines(lines):
     """Lines ascending: the shorter one first, of like length as strings ascend."""
-    return [line for _, line in sorted([(len(line), line) for line in lines])]
+    pairs = sorted([(len(line), line) for line in lines])
+    return [line for _, line in pairs]
