@@ -3,11 +3,12 @@
 Each list of words is ascending: processes, then pipes, then numbers.
 """
 
-from everypipe.kinds import is_integer, is_listed, is_listed_of
+from everypipe.kinds import is_integer, is_listed_of
 from everypipe.likeness import is_like
 from everypipe.nets import is_name_of_things
 from everypipe.orders import links_of, pair_by
 from everypipe.refusals import BadWaits
+from everypipe.signs import is_process_name
 from everypipe.stories import Story
 
 BROKEN = 141
@@ -130,8 +131,8 @@ def word_of_story(story):
 
 
 def told_wait(thing):
-    """A wait in a copy, of tuples alone."""
-    return (thing[0], tuple(thing[1]) if is_listed(thing[1]) else thing[1])
+    """A wait in a copy: a word and the name of a pipe or a process, None for what is no name."""
+    return (thing[0], tuple(thing[1]) if is_process_name(thing[1]) else None)
 
 
 def story_of(net, row, waits):

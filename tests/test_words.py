@@ -218,6 +218,11 @@ class Words(unittest.TestCase):
                 self.assertNotIn(told[0][0], ("open", "heard", "room", "waits"))
         self.assertEqual(seen, {"one", "touch", "asked", "pair"})
 
+    def test_pairs_of_anything(self):
+        for thing in any_objects():
+            for wait in [(thing, thing), ["take", thing], ("put", [thing]), (thing, PIPE)]:
+                self.assertEqual(word_of(NET, [over_p], {Q: wait}), ("one",))
+
     def test_wrong(self):
         for function in (word_of, lambda *passed: is_word(*passed, None)):
             for thing in any_objects():
