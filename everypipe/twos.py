@@ -6,7 +6,7 @@ from everypipe.machines import check_schedule, schedule_fault
 from everypipe.orders import dependent_ahead
 from everypipe.refusals import TooMany
 from everypipe.replays import picks_for
-from everypipe.seconds import picks_of, ways_of
+from everypipe.secondways import picks_of, ways_of
 from everypipe.words import TOUCHING
 
 
