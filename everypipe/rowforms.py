@@ -12,7 +12,7 @@ def has_great_number(deed):
     waiting = list(deed)
     while len(waiting) > 0:
         thing = waiting.pop()
-        if isinstance(thing, (list, tuple)):
+        if is_listed(thing):
             waiting.extend(list(thing))
         elif is_integer(thing) and thing >= TOO_GREAT:
             return True

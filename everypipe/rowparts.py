@@ -5,7 +5,8 @@ from everypipe.rowforms import told_deeds
 
 def own_parts(deeds):
     """As own_rows, of deeds in copies."""
-    found = {name: [] for name in sorted({deed[0]: True for deed in deeds})}
+    names = {deed[0]: True for deed in deeds}
+    found = {name: [] for name in sorted(names)}
     for deed in deeds:
         found[deed[0]].append(deed)
     return found

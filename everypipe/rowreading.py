@@ -79,7 +79,9 @@ class RowReader:
 
     def read_name(self):
         """The name of a process or a pipe."""
-        return (self.read_number(), *self.read_more_numbers())
+        first = self.read_number()
+        more = self.read_more_numbers()
+        return (first, *more)
 
     def read_name_or_none(self):
         if self.is_at("-"):
@@ -93,7 +95,8 @@ class RowReader:
             return (-1, self.read_number())
         first = self.read_number()
         self.skip(".")
-        return (first, self.read_number(), *self.read_more_numbers())
+        more = self.read_name()
+        return (first, *more)
 
     def read_file_name(self):
         begin = self.at
