@@ -102,6 +102,17 @@ class Steps(unittest.TestCase):
             self.check([piece, WC])
         self.check([WC, SORT])
 
+    def test_among_others(self):
+        for pieces, word, behind in [
+            ([CAT], "cat", []), ([B, A], "greps", [A, B]), ([SORT, SORT], "sorts", [SORT]), ([UNIQ, UNIQ], "uniqs", [UNIQ]), ([head(3), head(2)], "heads", [head(2)]),
+            ([tail(3), tail(4)], "tails", [tail(3)]), ([SORT, A], "sort grep", [A, SORT]), ([SORT, UNIQ, A], "sort uniq grep", [A, SORT, UNIQ]), ([SORT, UNIQ, SORT], "sort uniq sort", [SORT, UNIQ]),
+            ([cut(1), head(2)], "cut head", [head(2), cut(1)]), ([cut(1), tail(2)], "cut tail", [tail(2), cut(1)]), ([ENDS], "idle", [CAT]), ([tail(0)], "nothing", [head(0)]),
+            ([SORT, head(0)], "nothing", [head(0)]), ([cut(1), WC], "count", [WC]), ([SORT, WC], "count", [WC]),
+        ]:
+            self.assertIn((word, 1), steps_of([WC, *pieces, WC]))
+            self.assertTrue(is_alike(stepped([WC, *pieces, WC], (word, 1)), [WC, *behind, WC]))
+            self.assertTrue(is_alike(stepped([WC, WC, *pieces, WC, WC], (word, 2)), [WC, WC, *behind, WC, WC]))
+
     def test_several(self):
         self.check([SORT, SORT, A, CAT, head(0)], (("sorts", 0), [SORT, A, CAT, head(0)]), (("sort grep", 1), [SORT, A, SORT, CAT, head(0)]), (("cat", 3), [SORT, SORT, A, head(0)]),
                    (("nothing", 3), [SORT, SORT, A, head(0)]))

@@ -53,6 +53,26 @@ class Cuts(unittest.TestCase):
         self.assertEqual(cuts(net, row), {P: 3, Q: 4})
         self.assertEqual(cuts(net, row[:-1]), {Q: 4})
 
+    def test_who_can_be_broken_at_once_has_seen_nothing(self):
+        # (0,) can be broken at its first deed: then (1,) is shut ahead of all that (0,) takes of it.
+        net = ({PIPE: 1, LATTER: 1}, {P: [(PIPE, "put"), (LATTER, "take")], Q: [(LATTER, "put")], R: [(PIPE, "take")]})
+        row = [put, (Q, "put", LATTER, "b"), (P, "take", LATTER, "b"), over_p, over_q, (R, "over", None, 0)]
+        self.assertEqual(cuts(net, row), {P: 1, Q: 1})
+        # Behind a deed of its own that took a line it has seen that.
+        row = [(Q, "put", LATTER, "b"), (P, "take", LATTER, "b"), put, over_p, over_q, (R, "over", None, 0)]
+        self.assertEqual(cuts(net, row), {P: 2})
+
+    def test_nothing_is_ahead_of_a_first_deed(self):
+        # (0,) can be broken ahead of starting its child, which can be broken at its first deed: that has nothing of (1,) ahead of it.
+        child, rest, last = (0, 0), (2,), (3,)
+        pipes = [(number,) for number in range(4)]
+        first, lines, shared, other = pipes
+        net = ({pipe: 1 for pipe in pipes}, {P: [(first, "put"), (lines, "take"), (shared, "take"), (other, "put")], child: [(shared, "take"), (other, "put")],
+                                             Q: [(lines, "put"), (shared, "put")], rest: [(first, "take")], last: [(other, "take")]})
+        row = [(P, "put", first, "a"), (Q, "put", shared, "b"), (Q, "put", lines, "c"), (P, "take", lines, "c"), (P, "start", (child,), ()), (P, "drop", (other, "put"), None),
+               (P, "drop", (shared, "take"), None), (child, "put", other, "d"), (child, "over", None, 0), over_p, over_q, (rest, "over", None, 0), (last, "over", None, 0)]
+        self.assertEqual(cuts(net, row), {P: 1, child: 1, Q: 1})
+
     def test_the_end_of_a_child_that_may_come_earlier(self):
         # (0,) starts (0, 0), that puts to (1,), waits for it, and then shuts the pipe of (2,).
         child = (0, 0)

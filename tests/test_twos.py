@@ -114,7 +114,17 @@ class IsTwo(unittest.TestCase):
         self.check(machine, [0, 0, 0], [0, 2], True)
 
     def test_unlike_and_over_in_neither(self):
-        # (0,) tells as many looks as it likes ahead of waiting: none, by the sign that it had, or did not have yet.
+        # Who of (1,) and (2,) takes the one line waits again behind it; the other one has waited all along.
+        holds = {1: PUT, 0: ("pipe", (5,), "take"), 5: ("pipe", (5,), "put")}
+        taker = telling([], ("take", 0))
+        machine = Machine({}, [(telling([("put", 1, "a")], ("take", 0)), holds), (taker, {0: TAKE}), (taker, {0: TAKE})], {(): 1})
+        self.check(machine, [0, 0], [0, 1], True)
+        self.check(machine, [0, 0], [0, 2], False)
+        # If they are over then, their rows part by that alone where they are not beginnings; here they are, and one is left.
+        once = telling([("take", 0)])
+        machine = Machine({}, [(telling([("put", 1, "a")], ("take", 0)), holds), (once, {0: TAKE}), (once, {0: TAKE})], {(): 1})
+        self.check(machine, [0, 0], [0, 1], True)
+        # The end and the standing still of the same beginnings.
         waiter = telling([("look", "f")], ("take", 0))
         child = lambda answers: ("take", 0)
         rows = [(child, {0: ("new", 0, "take"), 1: ("new", 0, "put")})]
@@ -269,6 +279,10 @@ class LeftAlike(unittest.TestCase):
             self.assertEqual(raised(BadSchedule, left_alike, machine, [], schedule, None).index, index)
         for many in range(4):
             self.assertIs(raised(TooMany, left_alike, machine, [], [], many).many, many)
+        # Of six deeds and of four.
+        for one, other in (([0, 1, 0, 0], [0, 0, 1]), ([0, 0, 1], [0, 1, 0, 0])):
+            self.assertEqual(raised(TooMany, left_alike, endless_and_one([("put", 3, "x")]), one, other, 5).many, 5)
+            self.assertIs(left_alike(endless_and_one([("put", 3, "x")]), one, other, 6), False)
         endless = Machine({}, [(lambda answers: ("look", "f"), {})], {(): 1})
         self.assertEqual(raised(TooMany, left_alike, endless, [], [], 30).many, 30)
 

@@ -123,7 +123,17 @@ class Words(unittest.TestCase):
         self.check(net, [put, other("b"), over_p, over_q, over_r], {})
         both = ({PIPE: 2, LATTER: 2}, {P: [(PIPE, "put"), (LATTER, "put")], R: [(PIPE, "take"), (LATTER, "take")]})
         self.check(both, [put, other("b"), got("b"), over_p, over_r], {})
-        self.check(both, [put, other("b"), (R, "drop", (PIPE, "take"), None), got("b"), over_p, over_r], {}, ("heard", P, LATTER))
+        drop = (R, "drop", (PIPE, "take"), None)
+        self.check(both, [put, other("b"), drop, got("b"), over_p, over_r], {}, ("heard", P, LATTER))
+        # The line is taken by who takes from the pipe itself, the end heard behind that.
+        self.check(both, [put, other("b"), got("b"), over_p, drop, over_r], {})
+        self.check(both, [put, other("b"), got("b"), over_p, heard, drop, over_r], {})
+        # (2,) may be broken ahead of all that it takes; then (3,), who does not take from the pipe, hears the end earlier.
+        third = (2,)
+        more = ({PIPE: 1, LATTER: 1, third: 1}, {P: [(PIPE, "put"), (LATTER, "put")], Q: [(third, "take")], R: [(PIPE, "take"), (LATTER, "take"), (third, "put")], S: [(LATTER, "take")]})
+        row = [(R, "put", third, "c"), put, other("b"), got("b"), over_p, (S, "heard", LATTER, None), (S, "over", None, 0), over_r, over_q]
+        self.check(more, row, {}, ("heard", P, LATTER), ("pair", 3, 5))
+        self.check(more, row[:5] + row[6:], {})
 
     def test_room(self):
         net = ({PIPE: 1, LATTER: 1}, {P: [(PIPE, "put")], Q: [(PIPE, "take"), (LATTER, "put")], R: [(LATTER, "take")], S: [(PIPE, "take")]})
@@ -151,6 +161,14 @@ class Words(unittest.TestCase):
         net = ({PIPE: 1}, {P: [(PIPE, "put")], Q: [(PIPE, "put")], R: [(PIPE, "take")]})
         self.check(net, [put], {P: ("wait", R), Q: ("put", PIPE), R: ("wait", P)}, ("rival", Q))
         self.check(net, [put], {P: ("put", PIPE), Q: ("wait", P), R: ("wait", P)})
+        # What (1,) put is ahead of what (0,) did last.
+        told = ({PIPE: 1, LATTER: 1}, {P: [(PIPE, "put"), (LATTER, "take")], Q: [(PIPE, "put")], R: [(PIPE, "take"), (LATTER, "put")]})
+        row = [(Q, "put", PIPE, "b"), (R, "take", PIPE, "b"), (R, "put", LATTER, "c"), (P, "take", LATTER, "c"), put]
+        waits = {P: ("put", PIPE), Q: ("wait", P), R: ("wait", P)}
+        self.check(told, row, waits)
+        self.check(told, [row[0], row[1], put, row[2], row[3]], waits, ("pair", 0, 2))
+        self.check(told, row[:2] + [put], waits, ("pair", 0, 2))
+        self.check(({PIPE: 2, LATTER: 1}, told[1]), [row[0], put], waits, ("rival", P), ("pair", 0, 1))
         takers = ({PIPE: 1}, {P: [(PIPE, "put")], Q: [(PIPE, "take")], R: [(PIPE, "take")]})
         self.check(takers, [put, take], {P: ("wait", R), Q: ("wait", P), R: ("take", PIPE)}, ("rival", R))
         self.check(takers, [put, take], {P: ("wait", R), Q: ("take", PIPE), R: ("wait", P)})
