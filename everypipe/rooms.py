@@ -8,8 +8,6 @@ from everypipe.rings import ring_now
 
 MOST_ROOM = 8
 STRAIGHT_DEEDS = 2000
-# The deeds by which an actor has to do with other processes but by pipes and files.
-FAMILY = ("start", "wait", "ask", "signal")
 
 
 def end_word(look):
@@ -92,4 +90,5 @@ def is_straight(tree, holders, rooms):
     deeds = machine.run([], STRAIGHT_DEEDS)
     if not machine.is_whole():
         return False
-    return not any([deed[1] in FAMILY or (deed[1] == "over" and deed[2] is not None) for deed in deeds])
+    # Who starts nobody has nobody to wait for, or to sign to; a pipe of its own is not among those of the tables.
+    return not any([deed[1] == "start" and deed[2:] != ((), ()) for deed in deeds])

@@ -167,7 +167,8 @@ class Straight(unittest.TestCase):
     def test_actors(self):
         child = telling([])
         for wishes, told in [([("look", "f"), ("put", 4, "a"), ("close", 4)], True), ([("start", [(child, {})], {})], False), ([("start", [(child, {})], {}), ("wait", 0)], False),
-                             ([("wait", 0)], True), ([("become", child, {})], True)]:
+                             ([("wait", 0)], True), ([("become", child, {})], True), ([("start", [(child, {})], {}), ("ask", 0)], False),
+                             ([("start", [(child, {})], {}), ("signal", 0, "int")], False), ([("start", [], {})], True), ([("start", [], {1: ("new", 0, "put"), 2: ("new", 0, "take")})], False)]:
             self.assertIs(is_straight(tree={}, holders=((telling(wishes), {}),), rooms=ONE), told, wishes)
 
     def test_ends_within_two_thousand_deeds(self):
